@@ -1,0 +1,73 @@
+"""The calls on gatherings.
+
+A gathering is a list of signs: 1 a leaf alone, 2 and 3 the first and the second leaf of a pair,
+4 and 5 a stub in the place of such a leaf. Each call answers a list of whole numbers; a refusal is
+one number below 0.
+"""
+
+MOST_PLACES = 21
+
+ALONE = 1
+FIRST_STUB = 4
+SECOND_STUB = 5
+FIRST_SIGNS = (2, 4)
+SECOND_SIGNS = (3, 5)
+LEAF_SIGNS = (1, 2, 3)
+
+NO_GATHERING = -1
+NOT_THERE = -2
+STUB_THERE = -3
+
+
+def may_be_partners(first, second):
+    # Two stubs would be a sheet of which no leaf is left.
+    return first != FIRST_STUB or second != SECOND_STUB
+
+
+def is_gathering(g):
+    if len(g) > MOST_PLACES:
+        return False
+    # Pairs never cross, so a second partner can only belong to the latest first one that waits.
+    waiting = []
+    for sign in g:
+        if sign in FIRST_SIGNS:
+            waiting.append(sign)
+        elif sign in SECOND_SIGNS:
+            if len(waiting) == 0 or not may_be_partners(waiting.pop(), sign):
+                return False
+        elif sign != ALONE:
+            return False
+    return len(waiting) == 0
+
+
+def leaf_places(g):
+    return [place for place, sign in enumerate(g) if sign in LEAF_SIGNS]
+
+
+def is_one(g):
+    return [1 if is_gathering(g) else 0]
+
+
+def leaves(g):
+    if not is_gathering(g):
+        return [NO_GATHERING]
+    return [len(leaf_places(g))]
+
+
+def leaf(k, g):
+    if not is_gathering(g):
+        return [NO_GATHERING]
+    places = leaf_places(g)
+    if k >= len(places):
+        return [NOT_THERE]
+    return [places[k]]
+
+
+def which(p, g):
+    if not is_gathering(g):
+        return [NO_GATHERING]
+    if p >= len(g):
+        return [NOT_THERE]
+    if g[p] not in LEAF_SIGNS:
+        return [STUB_THERE]
+    return [leaf_places(g).index(p)]

@@ -1,0 +1,82 @@
+"""What the tests share: rows written as texts, and the document's words as a slow second program."""
+
+SIGNS = {"|": 1, "(": 2, ")": 3, "[": 4, "]": 5}
+
+LARGEST = 2147483647
+
+
+def row(text):
+    return [SIGNS[mark] for mark in text]
+
+
+# Text, then the places of its leaves.
+GATHERINGS = [
+    ("", []),
+    ("|", [0]),
+    ("|||", [0, 1, 2]),
+    ("()", [0, 1]),
+    ("[)", [1]),
+    ("(]", [0]),
+    ("()()", [0, 1, 2, 3]),
+    ("(())", [0, 1, 2, 3]),
+    ("[)(]", [1, 2]),
+    ("(][)", [0, 3]),
+    ("([))", [0, 2, 3]),
+    ("((])", [0, 1, 3]),
+    ("[())", [1, 2, 3]),
+    ("(()]", [0, 1, 2]),
+    ("[(])", [1, 3]),
+    ("([)]", [0, 2]),
+    ("[[))", [2, 3]),
+    ("((]]", [0, 1]),
+    ("|[|)|", [0, 2, 3, 4]),
+    ("(|(|)|[|))|", [0, 1, 2, 3, 4, 5, 7, 8, 9, 10]),
+    ("([(|]))(]|[)", [0, 2, 3, 5, 6, 7, 9, 11]),
+    ("|" * 21, list(range(21))),
+    ("(" * 10 + "|" + ")" * 10, list(range(21))),
+    ("[" * 10 + "|" + ")" * 10, list(range(10, 21))),
+    ("(" * 10 + "|" + "]" * 10, list(range(11))),
+    ("(][)" * 5 + "|", [0, 3, 4, 7, 8, 11, 12, 15, 16, 19, 20]),
+]
+
+NO_GATHERINGS = [
+    # A partner missing.
+    row("("), row(")"), row("["), row("]"),
+    row(")("), row("]("), row(")["), row("]["),
+    row("(()"), row("())"), row("[|"), row("|]"),
+    row("())("), row("|)(|"), row("()[)("),
+    row("(" * 21), row(")" * 21),
+    row("(" * 9 + "(|" + ")" * 9), row("(" * 9 + "|)" + ")" * 9),
+    # A stub paired with a stub.
+    row("[]"), row("[|]"), row("[()]"), row("()[]"), row("[]()"),
+    row("([])"), row("[[)]"), row("[(]]"), row("(([|]))"),
+    row("(" * 9 + "[|]" + ")" * 9), row("([(])|(" + "[]" + "))"),
+    # Numbers that are no signs.
+    [0], [6], [LARGEST], [1, 0], [0, 1], [1, 6, 1], [2, 0, 3], [2, 6, 3], [2, LARGEST, 3],
+    [2, 3, 6], [6, 2, 3], [2, 1, 7], [8, 1, 3], [0] * 21, [2, 2, 1, 0, 3, 3],
+    # More than 21 places.
+    row("|" * 22), row("()" * 11), row("(" * 11 + ")" * 11), row("[)" * 11),
+    row("|" * 64), row("()" * 32), row("(" * 32 + ")" * 32), row("(" * 64),
+    [0] * 64, [6] * 64, [LARGEST] * 64,
+]
+
+
+def paired(signs, known):
+    """Is the row paired within itself: the document's words, by trying every partner of the first."""
+    if signs == ():
+        return True
+    if signs not in known:
+        known[signs] = first_fits(signs, known)
+    return known[signs]
+
+
+def first_fits(signs, known):
+    if signs[0] == 1:
+        return paired(signs[1:], known)
+    if signs[0] not in (2, 4):
+        return False
+    for place in range(1, len(signs)):
+        if signs[place] in (3, 5) and (signs[0], signs[place]) != (4, 5):
+            if paired(signs[1:place], known) and paired(signs[place + 1:], known):
+                return True
+    return False
