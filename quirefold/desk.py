@@ -14,6 +14,9 @@ FIRST_SIGNS = (2, 4)
 SECOND_SIGNS = (3, 5)
 LEAF_SIGNS = (1, 2, 3)
 
+# Each sign, and what it is when the gathering is turned.
+TURNED = {1: 1, 2: 3, 3: 2, 4: 5, 5: 4}
+
 NO_GATHERING = -1
 NOT_THERE = -2
 STUB_THERE = -3
@@ -44,6 +47,24 @@ def leaf_places(g):
     return [place for place, sign in enumerate(g) if sign in LEAF_SIGNS]
 
 
+def partner_places(g):
+    # A leaf alone counts as its own partner.
+    partners = list(range(len(g)))
+    waiting = []
+    for place, sign in enumerate(g):
+        if sign in FIRST_SIGNS:
+            waiting.append(place)
+        elif sign in SECOND_SIGNS:
+            first = waiting.pop()
+            partners[first] = place
+            partners[place] = first
+    return partners
+
+
+def with_how_many(numbers):
+    return [len(numbers)] + numbers
+
+
 def is_one(g):
     return [1 if is_gathering(g) else 0]
 
@@ -71,3 +92,32 @@ def which(p, g):
     if g[p] not in LEAF_SIGNS:
         return [STUB_THERE]
     return [leaf_places(g).index(p)]
+
+
+def mate(p, g):
+    if not is_gathering(g):
+        return [NO_GATHERING]
+    if p >= len(g):
+        return [NOT_THERE]
+    return [partner_places(g)[p]]
+
+
+def depth(p, g):
+    if not is_gathering(g):
+        return [NO_GATHERING]
+    if p >= len(g):
+        return [NOT_THERE]
+    partners = partner_places(g)
+    return [len([first for first in range(p) if partners[first] > p])]
+
+
+def where(s, g):
+    if not is_gathering(g):
+        return [NO_GATHERING]
+    return with_how_many([place for place, sign in enumerate(g) if sign == s])
+
+
+def turn(g):
+    if not is_gathering(g):
+        return [NO_GATHERING]
+    return with_how_many([TURNED[sign] for sign in reversed(g)])

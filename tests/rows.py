@@ -1,5 +1,7 @@
 """What the tests share: rows written as texts, and the document's words as a slow second program."""
 
+import itertools
+
 SIGNS = {"|": 1, "(": 2, ")": 3, "[": 4, "]": 5}
 
 LARGEST = 2147483647
@@ -80,3 +82,27 @@ def first_fits(signs, known):
             if paired(signs[1:place], known) and paired(signs[place + 1:], known):
                 return True
     return False
+
+
+def gatherings_of(places):
+    """All gatherings of so many places, in order: every row of that length is tried."""
+    known = {}
+    return [list(signs) for signs in itertools.product(range(1, 6), repeat=places) if paired(signs, known)]
+
+
+def gatherings_up_to(most):
+    return [signs for places in range(most + 1) for signs in gatherings_of(places)]
+
+
+def pairs_of(signs):
+    """The two places of each pair, by the document's words: what stands between them is paired within itself."""
+    known = {}
+    return [
+        (first, second)
+        for first, second in itertools.combinations(range(len(signs)), 2)
+        if signs[first] in (2, 4) and signs[second] in (3, 5) and paired(tuple(signs[first + 1:second]), known)
+    ]
+
+
+def gatherings_to_try():
+    return [row(text) for text, places in GATHERINGS] + gatherings_up_to(6)

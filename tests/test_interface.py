@@ -1,6 +1,7 @@
 import contextlib
 import inspect
 import io
+import itertools
 import unittest
 
 from quirefold import desk
@@ -20,27 +21,50 @@ class Watched(list):
 
 ROWS = [row(text) for text, places in GATHERINGS] + NO_GATHERINGS
 
+ARGUMENTS = {
+    "is_one": ["g"],
+    "leaves": ["g"],
+    "leaf": ["k", "g"],
+    "which": ["p", "g"],
+    "mate": ["p", "g"],
+    "depth": ["p", "g"],
+    "where": ["s", "g"],
+    "turn": ["g"],
+}
+
+# Behind their number stand as many numbers as it says; behind that of every other call, nothing.
+TELL_HOW_MANY = ["where", "turn"]
+
+
+def numbers_for(signs):
+    return list(range(len(signs) + 2)) + [LARGEST]
+
 
 def calls_on(signs):
-    yield desk.is_one, (signs,)
-    yield desk.leaves, (signs,)
-    for number in list(range(len(signs) + 2)) + [LARGEST]:
-        yield desk.leaf, (number, signs)
-        yield desk.which, (number, signs)
+    for name, arguments in ARGUMENTS.items():
+        for numbers in itertools.product(numbers_for(signs), repeat=len(arguments) - 1):
+            yield getattr(desk, name), (*numbers, signs)
 
 
 class Interface(unittest.TestCase):
     def test_arguments(self):
-        for name, arguments in [("is_one", ["g"]), ("leaves", ["g"]), ("leaf", ["k", "g"]), ("which", ["p", "g"])]:
+        for name, arguments in ARGUMENTS.items():
             with self.subTest(name):
                 self.assertEqual(list(inspect.signature(getattr(desk, name)).parameters), arguments)
 
-    def test_answers_are_one_whole_number_in_a_list(self):
+    def test_answers_are_lists_of_whole_numbers(self):
         for signs in ROWS:
             for call, arguments in calls_on(signs):
                 answer = call(*arguments)
                 self.assertIs(type(answer), list)
-                self.assertEqual([type(number) for number in answer], [int])
+                self.assertEqual({type(number) for number in answer}, {int})
+
+    def test_what_stands_behind_the_number(self):
+        for signs in ROWS:
+            for call, arguments in calls_on(signs):
+                answer = call(*arguments)
+                behind = answer[0] if call.__name__ in TELL_HOW_MANY and answer[0] >= 0 else 0
+                self.assertEqual(len(answer) - 1, behind, (call, arguments))
 
     def test_list_is_as_it_was(self):
         for signs in ROWS:
