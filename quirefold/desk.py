@@ -13,12 +13,16 @@ SECOND_STUB = 5
 FIRST_SIGNS = (2, 4)
 SECOND_SIGNS = (3, 5)
 LEAF_SIGNS = (1, 2, 3)
+STUB_SIGNS = (4, 5)
 
 # Each sign, and what it is when the gathering is turned.
 TURNED = {1: 1, 2: 3, 3: 2, 4: 5, 5: 4}
+# A leaf that has a partner, and the stub that is left of it; and back again.
+STUB_OF_LEAF = {2: 4, 3: 5}
+LEAF_ON_STUB = {4: 2, 5: 3}
 
 NO_GATHERING = -1
-NOT_THERE = -2
+NOT_POSSIBLE = -2
 STUB_THERE = -3
 
 
@@ -61,6 +65,33 @@ def partner_places(g):
     return partners
 
 
+def stands_at(g, p, signs):
+    return p < len(g) and g[p] in signs
+
+
+def with_sign(g, p, sign):
+    return g[:p] + [sign] + g[p + 1:]
+
+
+def without_places(g, places):
+    return [sign for place, sign in enumerate(g) if place not in places]
+
+
+def without_leaf(g, p):
+    partner = partner_places(g)[p]
+    if g[partner] in STUB_SIGNS:
+        return without_places(g, [p, partner])
+    # A leaf alone is its own partner: it goes in any case.
+    return without_places(with_sign(g, partner, ALONE), [p])
+
+
+def with_leaf_cut(g, p):
+    partner = partner_places(g)[p]
+    if partner == p or g[partner] in STUB_SIGNS:
+        return without_leaf(g, p)
+    return with_sign(g, p, STUB_OF_LEAF[g[p]])
+
+
 def with_how_many(numbers):
     return [len(numbers)] + numbers
 
@@ -80,7 +111,7 @@ def leaf(k, g):
         return [NO_GATHERING]
     places = leaf_places(g)
     if k >= len(places):
-        return [NOT_THERE]
+        return [NOT_POSSIBLE]
     return [places[k]]
 
 
@@ -88,7 +119,7 @@ def which(p, g):
     if not is_gathering(g):
         return [NO_GATHERING]
     if p >= len(g):
-        return [NOT_THERE]
+        return [NOT_POSSIBLE]
     if g[p] not in LEAF_SIGNS:
         return [STUB_THERE]
     return [leaf_places(g).index(p)]
@@ -98,7 +129,7 @@ def mate(p, g):
     if not is_gathering(g):
         return [NO_GATHERING]
     if p >= len(g):
-        return [NOT_THERE]
+        return [NOT_POSSIBLE]
     return [partner_places(g)[p]]
 
 
@@ -106,7 +137,7 @@ def depth(p, g):
     if not is_gathering(g):
         return [NO_GATHERING]
     if p >= len(g):
-        return [NOT_THERE]
+        return [NOT_POSSIBLE]
     partners = partner_places(g)
     return [len([first for first in range(p) if partners[first] > p])]
 
@@ -121,3 +152,35 @@ def turn(g):
     if not is_gathering(g):
         return [NO_GATHERING]
     return with_how_many([TURNED[sign] for sign in reversed(g)])
+
+
+def lose(p, g):
+    if not is_gathering(g):
+        return [NO_GATHERING]
+    if not stands_at(g, p, LEAF_SIGNS):
+        return [NOT_POSSIBLE]
+    return with_how_many(without_leaf(g, p))
+
+
+def cut(p, g):
+    if not is_gathering(g):
+        return [NO_GATHERING]
+    if not stands_at(g, p, LEAF_SIGNS):
+        return [NOT_POSSIBLE]
+    return with_how_many(with_leaf_cut(g, p))
+
+
+def mend(p, g):
+    if not is_gathering(g):
+        return [NO_GATHERING]
+    if not stands_at(g, p, STUB_SIGNS):
+        return [NOT_POSSIBLE]
+    return with_how_many(with_sign(g, p, LEAF_ON_STUB[g[p]]))
+
+
+def single(p, g):
+    if not is_gathering(g):
+        return [NO_GATHERING]
+    if p > len(g) or len(g) == MOST_PLACES:
+        return [NOT_POSSIBLE]
+    return with_how_many(g[:p] + [ALONE] + g[p:])

@@ -34,6 +34,9 @@ GATHERINGS = [
     ("|[|)|", [0, 2, 3, 4]),
     ("(|(|)|[|))|", [0, 1, 2, 3, 4, 5, 7, 8, 9, 10]),
     ("([(|]))(]|[)", [0, 2, 3, 5, 6, 7, 9, 11]),
+    ("(" * 9 + "|" + "]" * 9, list(range(10))),
+    ("(" * 10 + ")" * 10, list(range(20))),
+    ("[)" * 10, list(range(1, 20, 2))),
     ("|" * 21, list(range(21))),
     ("(" * 10 + "|" + ")" * 10, list(range(21))),
     ("[" * 10 + "|" + ")" * 10, list(range(10, 21))),
@@ -106,3 +109,11 @@ def pairs_of(signs):
 
 def gatherings_to_try():
     return [row(text) for text, places in GATHERINGS] + gatherings_up_to(6)
+
+
+def partner_of(place, signs):
+    """The place of its partner; None for a leaf alone."""
+    for pair in pairs_of(signs):
+        if place in pair:
+            return sum(pair) - place
+    return None

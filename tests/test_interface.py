@@ -30,10 +30,14 @@ ARGUMENTS = {
     "depth": ["p", "g"],
     "where": ["s", "g"],
     "turn": ["g"],
+    "lose": ["p", "g"],
+    "cut": ["p", "g"],
+    "mend": ["p", "g"],
+    "single": ["p", "g"],
 }
 
 # Behind their number stand as many numbers as it says; behind that of every other call, nothing.
-TELL_HOW_MANY = ["where", "turn"]
+TELL_HOW_MANY = ["where", "turn", "lose", "cut", "mend", "single"]
 
 
 def numbers_for(signs):
