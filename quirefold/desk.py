@@ -8,6 +8,8 @@ one number below 0.
 MOST_PLACES = 21
 
 ALONE = 1
+FIRST_LEAF = 2
+SECOND_LEAF = 3
 FIRST_STUB = 4
 SECOND_STUB = 5
 FIRST_SIGNS = (2, 4)
@@ -21,6 +23,10 @@ TURNED = {1: 1, 2: 3, 3: 2, 4: 5, 5: 4}
 STUB_OF_LEAF = {2: 4, 3: 5}
 LEAF_ON_STUB = {4: 2, 5: 3}
 
+# How many signs may be the partner of a first sign, and so how many kinds of pairs there are.
+PARTNERS_OF_FIRST = {2: 2, 4: 1}
+KINDS_OF_PAIRS = 3
+
 NO_GATHERING = -1
 NOT_POSSIBLE = -2
 STUB_THERE = -3
@@ -31,20 +37,29 @@ def may_be_partners(first, second):
     return first != FIRST_STUB or second != SECOND_STUB
 
 
-def is_gathering(g):
-    if len(g) > MOST_PLACES:
-        return False
+def waiting_after(waiting, sign):
+    # The first signs that still wait for a partner behind this sign; None if it can't stand there.
+    if sign == ALONE:
+        return waiting
+    if sign in FIRST_SIGNS:
+        return waiting + [sign]
     # Pairs never cross, so a second partner can only belong to the latest first one that waits.
+    if sign in SECOND_SIGNS and len(waiting) > 0 and may_be_partners(waiting[-1], sign):
+        return waiting[:-1]
+    return None
+
+
+def is_paired(signs):
     waiting = []
-    for sign in g:
-        if sign in FIRST_SIGNS:
-            waiting.append(sign)
-        elif sign in SECOND_SIGNS:
-            if len(waiting) == 0 or not may_be_partners(waiting.pop(), sign):
-                return False
-        elif sign != ALONE:
+    for sign in signs:
+        waiting = waiting_after(waiting, sign)
+        if waiting is None:
             return False
     return len(waiting) == 0
+
+
+def is_gathering(g):
+    return len(g) <= MOST_PLACES and is_paired(g)
 
 
 def leaf_places(g):
@@ -90,6 +105,46 @@ def with_leaf_cut(g, p):
     if partner == p or g[partner] in STUB_SIGNS:
         return without_leaf(g, p)
     return with_sign(g, p, STUB_OF_LEAF[g[p]])
+
+
+def with_sheet(g, p, q):
+    return g[:p] + [FIRST_LEAF] + g[p:q] + [SECOND_LEAF] + g[q:]
+
+
+def are_two_alone(g, p, q):
+    return p < q and stands_at(g, p, [ALONE]) and stands_at(g, q, [ALONE])
+
+
+def ends_with_a_place_more(ends):
+    # The place holds a leaf alone, the end of the pair that waits last, or the beginning of a new one.
+    more = []
+    for waiting in range(MOST_PLACES + 1):
+        ways = ends[waiting]
+        if waiting > 0:
+            ways += ends[waiting - 1]
+        if waiting < MOST_PLACES:
+            ways += KINDS_OF_PAIRS * ends[waiting + 1]
+        more.append(ways)
+    return more
+
+
+def ends_by_places(n):
+    # ends[m][w]: how many rows of m signs end well where w wait for a partner of which the sign is settled.
+    ends = [[1] + [0] * MOST_PLACES]
+    for places in range(n):
+        ends.append(ends_with_a_place_more(ends[places]))
+    return ends
+
+
+def rows_behind(waiting, sign, ends):
+    # How many rows of signs end well behind this sign; ends is of as many places as are left behind it.
+    still_waiting = waiting_after(waiting, sign)
+    if still_waiting is None:
+        return 0
+    ways = ends[len(still_waiting)]
+    for first in still_waiting:
+        ways *= PARTNERS_OF_FIRST[first]
+    return ways
 
 
 def with_how_many(numbers):
@@ -184,3 +239,40 @@ def single(p, g):
     if p > len(g) or len(g) == MOST_PLACES:
         return [NOT_POSSIBLE]
     return with_how_many(g[:p] + [ALONE] + g[p:])
+
+
+def sheet(p, q, g):
+    if not is_gathering(g):
+        return [NO_GATHERING]
+    if p > q or q > len(g) or len(g) + 2 > MOST_PLACES:
+        return [NOT_POSSIBLE]
+    if not is_paired(g[p:q]):
+        return [NOT_POSSIBLE]
+    return with_how_many(with_sheet(g, p, q))
+
+
+def join(p, q, g):
+    if not is_gathering(g):
+        return [NO_GATHERING]
+    if not are_two_alone(g, p, q) or not is_paired(g[p + 1:q]):
+        return [NOT_POSSIBLE]
+    return with_how_many(with_sign(with_sign(g, p, FIRST_LEAF), q, SECOND_LEAF))
+
+
+def count(n):
+    if n > MOST_PLACES:
+        return [NOT_POSSIBLE]
+    return [ends_by_places(n)[n][0]]
+
+
+def rank(g):
+    if not is_gathering(g):
+        return [NO_GATHERING]
+    ends = ends_by_places(len(g))
+    before = 0
+    waiting = []
+    for place, sign in enumerate(g):
+        for lesser in range(ALONE, sign):
+            before += rows_behind(waiting, lesser, ends[len(g) - 1 - place])
+        waiting = waiting_after(waiting, sign)
+    return [before]

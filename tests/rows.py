@@ -111,6 +111,23 @@ def gatherings_to_try():
     return [row(text) for text, places in GATHERINGS] + gatherings_up_to(6)
 
 
+def ends_well(waiting, places, known):
+    """How many rows of so many signs end well where these wait, the last of them first for a partner."""
+    if len(waiting) > places:
+        return 0
+    if places == 0:
+        return 1
+    if (waiting, places) not in known:
+        ways = ends_well(waiting, places - 1, known)
+        for first in (2, 4):
+            ways += ends_well(waiting + (first,), places - 1, known)
+        if waiting != ():
+            partners = 2 if waiting[-1] == 2 else 1
+            ways += partners * ends_well(waiting[:-1], places - 1, known)
+        known[waiting, places] = ways
+    return known[waiting, places]
+
+
 def partner_of(place, signs):
     """The place of its partner; None for a leaf alone."""
     for pair in pairs_of(signs):

@@ -34,10 +34,14 @@ ARGUMENTS = {
     "cut": ["p", "g"],
     "mend": ["p", "g"],
     "single": ["p", "g"],
+    "sheet": ["p", "q", "g"],
+    "join": ["p", "q", "g"],
+    "count": ["n"],
+    "rank": ["g"],
 }
 
 # Behind their number stand as many numbers as it says; behind that of every other call, nothing.
-TELL_HOW_MANY = ["where", "turn", "lose", "cut", "mend", "single"]
+TELL_HOW_MANY = ["where", "turn", "lose", "cut", "mend", "single", "sheet", "join"]
 
 
 def numbers_for(signs):
@@ -46,8 +50,9 @@ def numbers_for(signs):
 
 def calls_on(signs):
     for name, arguments in ARGUMENTS.items():
-        for numbers in itertools.product(numbers_for(signs), repeat=len(arguments) - 1):
-            yield getattr(desk, name), (*numbers, signs)
+        choices = [[signs] if argument == "g" else numbers_for(signs) for argument in arguments]
+        for chosen in itertools.product(*choices):
+            yield getattr(desk, name), chosen
 
 
 class Interface(unittest.TestCase):
