@@ -7,6 +7,7 @@ one number below 0.
 
 MOST_PLACES = 21
 
+LEAST_SIGN = 1
 ALONE = 1
 FIRST_LEAF = 2
 SECOND_LEAF = 3
@@ -26,6 +27,10 @@ LEAF_ON_STUB = {4: 2, 5: 3}
 # How many signs may be the partner of a first sign, and so how many kinds of pairs there are.
 PARTNERS_OF_FIRST = {2: 2, 4: 1}
 KINDS_OF_PAIRS = 3
+
+# The bytes of the text, in the order of their signs' numbers: | ( ) [ ]
+SIGN_BYTES = (0x7C, 0x28, 0x29, 0x5B, 0x5D)
+NO_SIGN = 0
 
 NO_GATHERING = -1
 NOT_POSSIBLE = -2
@@ -145,6 +150,12 @@ def rows_behind(waiting, sign, ends):
     for first in still_waiting:
         ways *= PARTNERS_OF_FIRST[first]
     return ways
+
+
+def sign_of_byte(byte):
+    if byte not in SIGN_BYTES:
+        return NO_SIGN
+    return SIGN_BYTES.index(byte) + LEAST_SIGN
 
 
 def with_how_many(numbers):
@@ -272,7 +283,41 @@ def rank(g):
     before = 0
     waiting = []
     for place, sign in enumerate(g):
-        for lesser in range(ALONE, sign):
+        for lesser in range(LEAST_SIGN, sign):
             before += rows_behind(waiting, lesser, ends[len(g) - 1 - place])
         waiting = waiting_after(waiting, sign)
     return [before]
+
+
+def at(n, k):
+    if n > MOST_PLACES:
+        return [NOT_POSSIBLE]
+    ends = ends_by_places(n)
+    if k >= ends[n][0]:
+        return [NOT_POSSIBLE]
+    signs = []
+    waiting = []
+    before = k
+    for place in range(n):
+        sign = LEAST_SIGN
+        rows = rows_behind(waiting, sign, ends[n - 1 - place])
+        while before >= rows:
+            before -= rows
+            sign += 1
+            rows = rows_behind(waiting, sign, ends[n - 1 - place])
+        signs.append(sign)
+        waiting = waiting_after(waiting, sign)
+    return with_how_many(signs)
+
+
+def print_of(g):
+    if not is_gathering(g):
+        return [NO_GATHERING]
+    return with_how_many([SIGN_BYTES[sign - LEAST_SIGN] for sign in g])
+
+
+def read(t):
+    signs = [sign_of_byte(byte) for byte in t]
+    if not is_gathering(signs):
+        return [NOT_POSSIBLE]
+    return with_how_many(signs)

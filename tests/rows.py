@@ -5,10 +5,15 @@ import itertools
 SIGNS = {"|": 1, "(": 2, ")": 3, "[": 4, "]": 5}
 
 LARGEST = 2147483647
+LARGEST_NUMBER_OF_ALL = 9007199254740991
 
 
 def row(text):
     return [SIGNS[mark] for mark in text]
+
+
+def bytes_of(text):
+    return list(text.encode("ascii"))
 
 
 # Text, then the places of its leaves.
@@ -63,6 +68,20 @@ NO_GATHERINGS = [
     row("|" * 22), row("()" * 11), row("(" * 11 + ")" * 11), row("[)" * 11),
     row("|" * 64), row("()" * 32), row("(" * 32 + ")" * 32), row("(" * 64),
     [0] * 64, [6] * 64, [LARGEST] * 64,
+]
+
+NO_TEXTS = [
+    # Bytes that are no signs.
+    [0], [255], [1], [5], [123], [125], [39], [42], [90], [92], [94], bytes_of("()\n"), bytes_of(" ()"),
+    bytes_of("(0)"), bytes_of("{}"), bytes_of("<>"), [40, 0, 41], [124, 255], [0] * 21, [255] * 64,
+    # Signs' numbers are no bytes of a text.
+    [1], [2, 3], [4, 1, 3], [1] * 21,
+    # Not paired.
+    bytes_of("("), bytes_of(")"), bytes_of("["), bytes_of("]"), bytes_of(")("), bytes_of("[]"), bytes_of("[|]"),
+    bytes_of("(()"), bytes_of("())"), bytes_of("([])"), bytes_of("(" * 21), bytes_of("(" * 10 + ")" * 11),
+    # More than 21 bytes.
+    bytes_of("|" * 22), bytes_of("()" * 11), bytes_of("[)" * 11), bytes_of("|" * 64), bytes_of("()" * 32),
+    bytes_of("(" * 64),
 ]
 
 

@@ -25,11 +25,23 @@ type typing typing_extensions enum Enum IntEnum StrEnum Flag IntFlag Generic Pro
 namedtuple NamedTuple TypedDict TYPE_CHECKING abstractmethod
 """.split()
 
+BANNED_NAMES = set("""
+register mro elements open input version_info with_traceback add_note attrgetter breakpoint builtins compile copyright
+credits delattr dir eval exec exit gc getattr globals hasattr help id importlib license locals methodcaller os quit
+setattr super sys type vars
+""".split())
+
+WALKED_AT_ONCE = {"zip", "enumerate", "reversed", "range"}
+
+WALKERS = {"list", "tuple", "dict", "sorted", "sum", "any", "all", "enumerate", "zip", "min", "max"}
+
 METHODS = set("""
 append clear copy count endswith extend find get index insert isalnum isalpha isdigit islower isspace isupper
 items join keys ljust lower lstrip partition pop remove replace reverse rfind rjust rpartition rsplit rstrip
 setdefault split splitlines startswith strip update upper values zfill bit_length
 """.split())
+
+CHANGING_METHODS = {"append", "clear", "extend", "insert", "pop", "remove", "reverse", "setdefault", "update"}
 
 
 def package_files():
@@ -127,6 +139,80 @@ class Code(unittest.TestCase):
                     for sign, right in zip(node.ops, node.comparators):
                         if isinstance(sign, (ast.Is, ast.IsNot)):
                             self.assertIn(ast.unparse(right), ("None", "True", "False"), name)
+
+    def test_names_that_are_not_used(self):
+        for name, tree in trees():
+            for node in ast.walk(tree):
+                used = names_bound(node) + ([node.id] if isinstance(node, ast.Name) else [])
+                self.assertEqual(BANNED_NAMES & set(used), set(), name)
+
+    def test_statements(self):
+        for name, tree in trees():
+            for node in ast.walk(tree):
+                if isinstance(node, (ast.For, ast.While)):
+                    self.assertEqual(node.orelse, [], name)
+                if isinstance(node, ast.Assign):
+                    self.assertEqual([type(target) for target in node.targets if type(target) is ast.Tuple], [], name)
+                    self.assertEqual(len(node.targets), 1, name)
+                if isinstance(node, ast.ListComp):
+                    self.assertEqual(len(node.generators), 1, name)
+                    self.assertLessEqual(len(node.generators[0].ifs), 1, name)
+
+    def test_no_power_and_no_percent_in_a_text(self):
+        for name, tree in trees():
+            for node in ast.walk(tree):
+                if isinstance(node, ast.BinOp) and isinstance(node.op, ast.Pow):
+                    self.assertIsInstance(node.right, ast.Constant, name)
+                if isinstance(node, ast.Constant) and isinstance(node.value, str):
+                    self.assertNotIn("%", node.value, name)
+
+    def test_lists_and_dicts_of_the_top_are_only_read(self):
+        for name, tree in trees():
+            kept = {
+                node.targets[0].id for node in tree.body
+                if isinstance(node, ast.Assign) and isinstance(node.value, (ast.List, ast.Dict))
+            }
+            indexed = [
+                node.value for node in ast.walk(tree)
+                if isinstance(node, ast.Subscript) and isinstance(node.ctx, ast.Load)
+            ]
+            for node in ast.walk(tree):
+                if isinstance(node, ast.Name) and isinstance(node.ctx, ast.Load) and node.id in kept:
+                    self.assertIn(node, indexed, f"{name}: {node.id}")
+
+    def test_walked_at_once(self):
+        for name, tree in trees():
+            walked = []
+            for node in ast.walk(tree):
+                if isinstance(node, (ast.For, ast.comprehension)):
+                    walked.append(node.iter)
+                if isinstance(node, ast.Call) and called(node) in WALKERS:
+                    walked.extend(node.args)
+            for node in ast.walk(tree):
+                if isinstance(node, ast.Call) and called(node) in WALKED_AT_ONCE:
+                    self.assertIn(node, walked, f"{name}: {ast.unparse(node)}")
+
+    def test_what_a_loop_walks_is_not_changed_in_it(self):
+        for name, tree in trees():
+            for loop in ast.walk(tree):
+                if isinstance(loop, ast.For):
+                    walked = {node.id for node in ast.walk(loop.iter) if isinstance(node, ast.Name)}
+                    for node in ast.walk(loop):
+                        self.assertNotIn(changed_by(node), walked, f"{name}: {ast.unparse(loop)}")
+
+
+def called(node):
+    return node.func.id if isinstance(node.func, ast.Name) else None
+
+
+def changed_by(node):
+    """The name of the list or dict that is changed here, if one is."""
+    if isinstance(node, ast.Subscript) and isinstance(node.ctx, ast.Store) and isinstance(node.value, ast.Name):
+        return node.value.id
+    if isinstance(node, ast.Call) and isinstance(node.func, ast.Attribute) and isinstance(node.func.value, ast.Name):
+        if node.func.attr in CHANGING_METHODS:
+            return node.func.value.id
+    return None
 
 
 def names_bound(node):
